@@ -1,0 +1,1 @@
+"""Surecues: exact motions on a stage, and moments that are not yet known."""
