@@ -5,6 +5,10 @@ from math import gcd
 from surecues.errors import NumberError
 from surecues.limits import DIGITS
 
+ZERO = (0, 1)
+ONE = (1, 1)
+TWO = (2, 1)
+
 
 def number(top, bottom):
     """The number that is top / bottom."""
@@ -34,6 +38,11 @@ def times(first, second):
 def over(first, second):
     """The first number divided by the second one, which must not be 0."""
     return number(first[0] * second[1], first[1] * second[0])
+
+
+def negative(value):
+    """The number with the other sign."""
+    return -value[0], value[1]
 
 
 def compare(first, second):
