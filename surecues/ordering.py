@@ -1,4 +1,4 @@
-"""Numbers and markers in ascending order."""
+"""The order of numbers and of markers, and numbers that lie between others."""
 
 from math import lcm
 
@@ -27,6 +27,16 @@ def between(values, first, second):
 def is_within(value, least, greatest):
     """Tells whether a number is at least the one and at most the other."""
     return compare(least, value) <= 0 and compare(value, greatest) <= 0
+
+
+def all_within(span, low, high):
+    """Whether all numbers of a span lie from low to high: True, False if none does, or None."""
+    least, greatest = span
+    if is_within(least, low, high) and is_within(greatest, low, high):
+        return True
+    if compare(greatest, low) < 0 or compare(least, high) > 0:
+        return False
+    return None
 
 
 def _common_bottom(values):

@@ -6,6 +6,11 @@ The formula of a piece is its triple (a, b, c): at a place t it has the value a 
 from surecues.numbers import TWO, ZERO, compare, minus, negative, over, plus, times
 
 
+def track_of(clip, prop):
+    """The track of a property."""
+    return dict(clip[1])[prop]
+
+
 def value_of(formula, place):
     """The value of a formula at a place."""
     a, b, c = formula
